@@ -1,0 +1,1 @@
+"""Rollwarden: upgrading services one instance at a time, while clients see one version."""
