@@ -8,18 +8,9 @@ UP = 1
 DOWN = 2
 
 
-class ServiceView:
-    """The services of a program."""
-
-    # The package may read an attribute only if one of its classes assigns one of that name
-    # (LANGUAGE.md, L18). Until the class Program does, this one assigns `services`.
-    def __init__(self, program):
-        self.services = program.services
-
-
 def versions_of(program, service):
     """Returns the versions of a service, the lowest one first."""
-    _, versions = ServiceView(program).services[service]
+    _, versions = program.services[service]
     return versions
 
 

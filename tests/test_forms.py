@@ -4,25 +4,20 @@ import copy
 import unittest
 
 from rollwarden.forms import convert, lost_down, lost_up
-
-
-class PlainProgram:
-    """An object with the attributes of a program, made of these services."""
-
-    def __init__(self, services):
-        self.questions = ((0, 1, 1),)
-        self.services = services
-        self.releases = ((tuple(0 for _ in services), ()),)
-        self.switches = 0
-        self.clients = 1
-        self.asks = 1
-        self.losses = 0
-        self.doubles = 0
-        self.crashes = 0
+from rollwarden.program import Program
 
 
 def version(sizes, up=(), down=()):
     return (sizes, up, down, (None,))
+
+
+def program_of(*services):
+    """A program with these services."""
+    return Program(
+        questions=((0, 1, 1),),
+        services=services,
+        releases=((tuple(0 for _ in services), ()),),
+    )
 
 
 # Versions with 2, 3 and 4 records. No table is the way back of its neighbor.
@@ -34,12 +29,12 @@ LADDER = (2, (
 # Nothing is lost in either direction.
 SWAPPED = (1, (version((2,)), version((1, 2), (1, 0), (1, 0))))
 SINGLE = (1, (version((4,)),))
-PROGRAM = PlainProgram((LADDER, SWAPPED, SINGLE))
+PROGRAM = program_of(LADDER, SWAPPED, SINGLE)
 
 
 def pair_of(low_sizes, high_sizes, up, down):
     """A program with one service of two versions."""
-    return PlainProgram(((1, (version(low_sizes), version(high_sizes, up, down))),))
+    return program_of((1, (version(low_sizes), version(high_sizes, up, down))))
 
 
 def converted(service, first, last, count):
@@ -73,12 +68,6 @@ class TestConvert(unittest.TestCase):
     def test_the_tables_are_those_of_the_service(self):
         self.assertEqual(converted(1, 0, 1, 2), [1, 0])
         self.assertEqual(converted(1, 1, 0, 2), [1, 0])
-
-    def test_more_versions_than_the_limit_are_no_error(self):
-        steps = tuple(version((2,), (1, 0), (1, 0)) for _ in range(4))
-        program = PlainProgram(((1, (version((2,)), *steps)),))
-        self.assertEqual(convert(program, 0, 0, 3, 0), 1)
-        self.assertEqual(convert(program, 0, 4, 0, 0), 0)
 
 
 class TestLostUp(unittest.TestCase):
@@ -141,13 +130,6 @@ class TestArguments(unittest.TestCase):
         before = copy.deepcopy(vars(PROGRAM))
         self.use_all(PROGRAM)
         self.assertEqual(vars(PROGRAM), before)
-
-    # Lists stand in for tuples here, because a change of a tuple could not be seen.
-    def test_the_tables_stay_as_they_were(self):
-        services = [[2, [[list(sizes), list(up), list(down), [None]] for sizes, up, down, _ in LADDER[1]]]]
-        before = copy.deepcopy(services)
-        self.use_all(PlainProgram(services))
-        self.assertEqual(services, before)
 
     def test_numbers_are_integers(self):
         self.assertIs(type(convert(PROGRAM, 0, 0, 2, 1)), int)
