@@ -26,6 +26,21 @@ INTERFACE = {
     "program": ("Program",),
     "plans": ("Plan",),
     "machine": ("start(program)", "acts(program, plan, state)", "after(program, plan, state, act)"),
+    "ideal": (
+        "first_ideal(program)",
+        "hidden(program, plan, state, ideal)",
+        "beside(program, plan, state, ideals)",
+        "signed(ideals, sign)",
+    ),
+    "judge": (
+        "first_pair(program, plan)",
+        "next_pair(program, plan, pair, act)",
+        "judge(program, plan, limit)",
+        "certificate(program, plan, limit)",
+        "check(program, plan, rows)",
+    ),
+    "least": ("least(program, offers, wants, limit)",),
+    "unused": ("used_versions(program, plan, state, act)", "unused_from(program, plan, service, version, limit)"),
 }
 METHODS = {
     ("program", "Program"): (
@@ -47,7 +62,7 @@ BUILTINS = set(
     "len range enumerate zip min max sum abs sorted reversed int str bool bytes list tuple dict set frozenset "
     "isinstance ord repr any all divmod pow map Exception ValueError TypeError KeyError IndexError LookupError "
     "ZeroDivisionError".split())
-BUILTIN_METHODS = set(
+BUILTIN_METHODS = {"add"} | set(
     "append clear copy count endswith extend find get index insert isalnum isalpha isdigit islower isspace isupper "
     "items join keys ljust lower lstrip partition pop remove replace reverse rfind rjust rpartition rsplit rstrip "
     "setdefault split splitlines startswith strip update upper values zfill bit_length".split())

@@ -4,8 +4,7 @@ import unittest
 
 from rollwarden.machine import acts, after, start
 from rollwarden.plans import Plan
-from rollwarden.program import Program
-from samples import behind, chain, counter, play
+from samples import behind, chain, counter, play, stairs
 
 STEP = ("step",)
 BACK = ("turnback",)
@@ -19,21 +18,6 @@ def plan_acts(program, steps, run, undo=False):
     plan = Plan(program, steps, undo=undo)
     found = acts(program, plan, play(program, plan, run)[0])
     return [act for act in found if act in (STEP, BACK, UNSTEP)]
-
-
-def stairs():
-    """One service with one instance and three versions, each table of which can be told from the others."""
-    handlers = (((None, ("answer", ("field", 0))),),)
-    return Program(
-        questions=((0, 1, 4),),
-        services=((1, (
-            ((4,), (), (), handlers),
-            ((4,), (1, 2, 3, 0), (0, 2, 2, 1), handlers),
-            ((4,), (2, 2, 0, 1), (3, 0, 1, 1), handlers),
-        )),),
-        releases=(((0,), (0, 1)), ((1,), (1, 0))),
-        switches=2,
-    )
 
 
 class TestStep(unittest.TestCase):
