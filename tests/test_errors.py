@@ -7,6 +7,9 @@ from rollwarden.errors import BadPlan, BadProgram, NotAllowed, RollError
 SUBCLASSES = (BadProgram, BadPlan, NotAllowed)
 CLASSES = (RollError, *SUBCLASSES)
 VALUES = ("services", "", 0, 7, ("ask", 0, 1, 2, 0), (), None)
+# Python refuses to write out a number with so many digits.
+LARGE = 10 ** 5000
+LARGE_VALUES = (LARGE, -LARGE, (LARGE,), ("crash", LARGE, 0), ("take", 0, -LARGE, LARGE), [LARGE], {LARGE: -LARGE})
 
 
 class TestValues(unittest.TestCase):
@@ -42,6 +45,43 @@ class TestValues(unittest.TestCase):
         for kind in CLASSES:
             kind(value)
         self.assertEqual(value, [1, [2, 3]])
+
+
+class TestValuesOfAnySize(unittest.TestCase):
+    def test_an_error_keeps_a_large_value(self):
+        for kind in CLASSES:
+            for index, value in enumerate(LARGE_VALUES):
+                with self.subTest(kind=kind, index=index):
+                    self.assertIs(kind(value).value, value)
+
+    def test_a_raised_error_keeps_a_large_value(self):
+        for kind in CLASSES:
+            with self.assertRaises(kind) as held:
+                raise kind(("step", LARGE))
+            self.assertTrue(held.exception.value == ("step", LARGE))
+
+    def test_an_error_keeps_a_value_of_great_depth(self):
+        value = ()
+        for _ in range(100000):
+            value = (value,)
+        for kind in CLASSES:
+            self.assertIs(kind(value).value, value)
+
+    def test_each_error_can_be_written_out(self):
+        for kind in CLASSES:
+            for index, value in enumerate((*VALUES, *LARGE_VALUES)):
+                with self.subTest(kind=kind, index=index):
+                    self.assertIsInstance(str(kind(value)), str)
+                    self.assertIsInstance(repr(kind(value)), str)
+
+    def test_what_can_be_written_out_stands_in_the_message(self):
+        for kind in CLASSES:
+            with self.subTest(kind=kind):
+                self.assertIn("services", str(kind("services")))
+                self.assertIn("-7", str(kind(-7)))
+                message = str(kind(("crash", LARGE, 12)))
+                self.assertIn("crash", message)
+                self.assertIn("12", message)
 
 
 class TestClasses(unittest.TestCase):

@@ -89,6 +89,20 @@ class TestAfter(unittest.TestCase):
             with self.assertRaises(NotAllowed):
                 after(program, plan, state, act)
 
+    def test_acts_with_numbers_of_any_size_are_not_allowed(self):
+        program = counter(asks=2, losses=1, doubles=1, crashes=1)
+        plan = plan_of(program, [("final",)], undo=True)
+        state = behind(program, [("ask", 0, 0, 1, 0)])
+        for act in acts(program, plan, state):
+            for index in range(len(act) + 1):
+                for number in (10 ** 50, 10 ** 5000, -(10 ** 5000)):
+                    # In place of each part, and behind the last one.
+                    wrong = act[:index] + (number,) + act[index + 1:]
+                    with self.subTest(act=act, index=index):
+                        with self.assertRaises(NotAllowed) as held:
+                            after(program, plan, state, wrong)
+                        self.assertIs(held.exception.value, wrong)
+
     def test_exactly_the_acts_that_are_listed_are_allowed(self):
         program = chain((1, 2, 1), asks=2, losses=1, doubles=1, crashes=1)
         plan = plan_of(program, [("raise", 1, 0, 0), ("turn", 0), ("turned",)], undo=True)
